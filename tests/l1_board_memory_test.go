@@ -1,0 +1,129 @@
+package tests
+
+import (
+	"reflect"
+	"slices"
+	"testing"
+
+	"loop.example/g01239/impl"
+)
+
+const junk = 777
+
+// roomy has the elements of list, and spare capacity that is full of junk.
+func roomy(list []int) []int {
+	all := append(slices.Clone(list), slices.Repeat([]int{junk}, 8)...)
+	return all[:len(list)]
+}
+
+// whole tells a slice with its spare capacity.
+func whole(list []int) []int {
+	return list[:cap(list)]
+}
+
+// slicesIn finds all slices of numbers in some results.
+func slicesIn(v reflect.Value) [][]int {
+	var found [][]int
+	switch v.Kind() {
+	case reflect.Slice:
+		if list, ok := v.Interface().([]int); ok {
+			return [][]int{list}
+		}
+		for i := range v.Len() {
+			found = append(found, slicesIn(v.Index(i))...)
+		}
+	case reflect.Struct:
+		for i := range v.NumField() {
+			found = append(found, slicesIn(v.Field(i))...)
+		}
+	case reflect.Interface:
+		return slicesIn(v.Elem())
+	}
+	return found
+}
+
+// memoryInputs are valid for every function of chapter 1.
+func memoryInputs() []input {
+	full := goodInput()
+	full.board, full.path, full.to = plain(4, 3), []int{0, 9, 2}, 6
+	single := goodInput()
+	single.board, single.leaper = onlyCell(8, 8, 63), impl.Leaper{A: 0, B: 5}
+	single.from, single.to, single.path, single.name, single.text = 63, 63, []int{63}, "h8", "h8"
+	empty := goodInput()
+	empty.path, empty.text = []int{}, ""
+	return []input{goodInput(), full, single, empty}
+}
+
+func TestArgumentsAreLeftAlone(t *testing.T) {
+	for _, in := range memoryInputs() {
+		in.board.Holes, in.path = roomy(in.board.Holes), roomy(in.path)
+		holes, path := slices.Clone(whole(in.board.Holes)), slices.Clone(whole(in.path))
+		for _, c := range boardCalls {
+			c.run(in)
+			if !slices.Equal(whole(in.board.Holes), holes) || !slices.Equal(whole(in.path), path) {
+				t.Fatal(c.name, "changed its arguments to", whole(in.board.Holes), whole(in.path))
+			}
+		}
+	}
+}
+
+func TestBadArgumentsAreLeftAlone(t *testing.T) {
+	for _, bad := range badInputs() {
+		for _, in := range bad {
+			in.board.Holes, in.path = roomy(in.board.Holes), roomy(in.path)
+			holes, path := slices.Clone(whole(in.board.Holes)), slices.Clone(whole(in.path))
+			for _, c := range boardCalls {
+				c.run(in)
+				if !slices.Equal(whole(in.board.Holes), holes) || !slices.Equal(whole(in.path), path) {
+					t.Fatal(c.name, "changed its arguments to", whole(in.board.Holes), whole(in.path))
+				}
+			}
+		}
+	}
+}
+
+// What is written to results shows neither in arguments, nor in other slices of the results, nor in those of a later call.
+func TestResultsHaveMemoryOfTheirOwn(t *testing.T) {
+	for _, in := range memoryInputs() {
+		in.board.Holes, in.path = roomy(in.board.Holes), roomy(in.path)
+		holes, path := slices.Clone(whole(in.board.Holes)), slices.Clone(whole(in.path))
+		for _, c := range boardCalls {
+			first := c.run(in)
+			found := slicesIn(reflect.ValueOf(first))
+			for i, list := range found {
+				for j := range whole(list) {
+					whole(list)[j] = -1000 - i
+				}
+			}
+			for i, list := range found {
+				for _, n := range whole(list) {
+					if n != -1000-i {
+						t.Fatal(c.name, "returned slices that share memory")
+					}
+				}
+			}
+			if !slices.Equal(whole(in.board.Holes), holes) || !slices.Equal(whole(in.path), path) {
+				t.Fatal(c.name, "returned memory of its arguments")
+			}
+			clean := in
+			clean.board.Holes, clean.path = slices.Clone(in.board.Holes), slices.Clone(in.path)
+			wants(t, c.name+" again, with no spare capacity,", c.run(in), c.run(clean)...)
+			for _, list := range found {
+				for _, n := range whole(list) {
+					if n > -1000 {
+						t.Fatal(c.name, "wrote to an earlier result")
+					}
+				}
+			}
+		}
+	}
+}
+
+func TestNilAndEmptyAreTheSame(t *testing.T) {
+	null, empty := goodInput(), goodInput()
+	null.board.Holes, null.path = nil, nil
+	empty.board.Holes, empty.path = []int{}, []int{}
+	for _, c := range boardCalls {
+		wants(t, c.name+" of empty slices", c.run(empty), c.run(null)...)
+	}
+}
