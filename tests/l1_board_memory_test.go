@@ -54,30 +54,26 @@ func memoryInputs() []input {
 	return []input{goodInput(), full, single, empty}
 }
 
-func TestArgumentsAreLeftAlone(t *testing.T) {
-	for _, in := range memoryInputs() {
-		in.board.Holes, in.path = roomy(in.board.Holes), roomy(in.path)
-		holes, path := slices.Clone(whole(in.board.Holes)), slices.Clone(whole(in.path))
-		for _, c := range boardCalls {
-			c.run(in)
-			if !slices.Equal(whole(in.board.Holes), holes) || !slices.Equal(whole(in.path), path) {
-				t.Fatal(c.name, "changed its arguments to", whole(in.board.Holes), whole(in.path))
-			}
+// leavesAlone fails the test if a call changes its arguments or what lies behind them.
+func leavesAlone(t *testing.T, in input) {
+	t.Helper()
+	in.board.Holes, in.path = roomy(in.board.Holes), roomy(in.path)
+	holes, path := slices.Clone(whole(in.board.Holes)), slices.Clone(whole(in.path))
+	for _, c := range boardCalls {
+		c.run(in)
+		if !slices.Equal(whole(in.board.Holes), holes) || !slices.Equal(whole(in.path), path) {
+			t.Fatal(c.name, "changed its arguments to", whole(in.board.Holes), whole(in.path))
 		}
 	}
 }
 
-func TestBadArgumentsAreLeftAlone(t *testing.T) {
+func TestArgumentsAreLeftAlone(t *testing.T) {
+	for _, in := range memoryInputs() {
+		leavesAlone(t, in)
+	}
 	for _, bad := range badInputs() {
 		for _, in := range bad {
-			in.board.Holes, in.path = roomy(in.board.Holes), roomy(in.path)
-			holes, path := slices.Clone(whole(in.board.Holes)), slices.Clone(whole(in.path))
-			for _, c := range boardCalls {
-				c.run(in)
-				if !slices.Equal(whole(in.board.Holes), holes) || !slices.Equal(whole(in.path), path) {
-					t.Fatal(c.name, "changed its arguments to", whole(in.board.Holes), whole(in.path))
-				}
-			}
+			leavesAlone(t, in)
 		}
 	}
 }
