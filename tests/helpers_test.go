@@ -135,6 +135,14 @@ func results(list ...any) []any {
 	return list
 }
 
+// expect fails the test unless a call returned just what is listed behind its name.
+func expect(t *testing.T, name string, got []any, wanted ...any) {
+	t.Helper()
+	if !same(got, wanted) {
+		t.Errorf("%s returned %v, not %v", name, got, wanted)
+	}
+}
+
 // wants ends the test unless a call returned just what is listed behind its name.
 func wants(t *testing.T, name string, got []any, wanted ...any) {
 	t.Helper()

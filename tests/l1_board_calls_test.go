@@ -1,33 +1,10 @@
 package tests
 
 import (
-	"math"
-	"slices"
-	"strings"
 	"testing"
 
 	"loop.example/g01239/impl"
 )
-
-// An input has arguments for every function of chapter 1.
-type input struct {
-	board  impl.Board
-	leaper impl.Leaper
-	from   int
-	to     int
-	wide   int
-	high   int
-	path   []int
-	name   string
-	text   string
-}
-
-// A call runs one function; needs has the letters of the arguments that have to be valid.
-type call struct {
-	name  string
-	needs string
-	run   func(in input) []any
-}
 
 var boardCalls = []call{
 	{"IsLeaper", "", func(in input) []any { return results(impl.IsLeaper(in.leaper)) }},
@@ -53,86 +30,7 @@ var boardCalls = []call{
 	{"ParsePath", "bs", func(in input) []any { return results(impl.ParsePath(in.board, in.text)) }},
 }
 
-func goodInput() input {
-	return input{
-		board: holed(4, 3, 1, 6, 7), leaper: knight, from: 0, to: 9, wide: 4, high: 3,
-		path: []int{0, 9, 2}, name: "b3", text: "a1-b3-c1",
-	}
-}
-
-var extremes = []int{math.MinInt64, math.MinInt64 + 1, -1 << 32, -64, -1, 64, 65, 1 << 32, 1<<62 + 1, math.MaxInt64 - 1, math.MaxInt64}
-
-func badBoards() []impl.Board {
-	all := []int{0, 1, 2, 3}
-	boards := []impl.Board{
-		{}, plain(0, 3), plain(3, 0), plain(9, 1), plain(1, 9), plain(-3, -3), plain(-1, 4),
-		holed(2, 2, all...), holed(1, 1, 0), holed(2, 2, 0, 1, 2, 3, 4), holed(2, 2, 4), holed(2, 2, -1), holed(2, 2, -1, 0),
-		holed(3, 3, 1, 1), holed(3, 3, 2, 1), holed(3, 3, 0, 5, 5), holed(3, 3, 0, 5, 4), holed(3, 3, 0, 9), holed(0, 0, 0),
-		{Wide: 8, High: 8, Holes: make([]int, 100)}, {Wide: 3, High: 3, Holes: slices.Repeat([]int{7}, 5)},
-	}
-	for _, n := range extremes {
-		boards = append(boards, plain(n, 3), plain(3, n), plain(n, n), holed(3, 3, 1, n), holed(3, 3, n, 1))
-	}
-	return boards
-}
-
-func badLeapers() []impl.Leaper {
-	leapers := []impl.Leaper{{}, {A: 2, B: 1}, {A: 1, B: 0}, {A: -1, B: 2}, {A: 1, B: 6}, {A: 6, B: 6}, {A: -2, B: -1}, {A: 0, B: -1}}
-	for _, n := range extremes {
-		leapers = append(leapers, impl.Leaper{A: n, B: 2}, impl.Leaper{A: 1, B: n}, impl.Leaper{A: n, B: n})
-	}
-	return leapers
-}
-
-// badInputs has for each letter inputs of which just the argument with this letter is invalid.
-func badInputs() map[string][]input {
-	bad := map[string][]input{}
-	add := func(letter string, change func(in *input)) {
-		in := goodInput()
-		change(&in)
-		bad[letter] = append(bad[letter], in)
-	}
-	for _, b := range badBoards() {
-		add("b", func(in *input) { in.board = b })
-		add("b", func(in *input) { in.board, in.path, in.text = b, nil, "" })
-	}
-	for _, l := range badLeapers() {
-		add("l", func(in *input) { in.leaper = l })
-		add("l", func(in *input) { in.leaper, in.path = l, nil })
-	}
-	for _, n := range append([]int{1, 6, 7, 12, 13}, extremes...) {
-		add("f", func(in *input) { in.from = n })
-		add("t", func(in *input) { in.to = n })
-		add("p", func(in *input) { in.path = []int{n} })
-		add("p", func(in *input) { in.path = []int{0, n, 2} })
-	}
-	for _, n := range append([]int{0, 9}, extremes...) {
-		add("w", func(in *input) { in.wide = n })
-		add("h", func(in *input) { in.high = n })
-	}
-	add("p", func(in *input) { in.path = make([]int, 65) })
-	for _, name := range append([]string{"b1", "c2", "e1", "a4"}, noNames...) {
-		add("n", func(in *input) { in.name = name })
-		add("s", func(in *input) { in.text = "a1-" + name })
-	}
-	add("s", func(in *input) { in.text = strings.Repeat("a1-", 64) + "a1" })
-	return bad
-}
-
-func TestInvalidArgumentsGiveZeros(t *testing.T) {
-	bad := badInputs()
-	for _, c := range boardCalls {
-		good := c.run(goodInput())
-		if good[len(good)-1] != true {
-			t.Error(c.name, "fails for valid arguments:", good)
-		}
-		for _, letter := range strings.Split(c.needs, "") {
-			for _, in := range bad[letter] {
-				got := c.run(in)
-				wants(t, c.name+" with a bad argument "+letter, got, zeros(got)...)
-			}
-		}
-	}
+func TestInvalidBoardsAndLeapers(t *testing.T) {
 	for _, b := range badBoards() {
 		if impl.IsBoard(b) {
 			t.Error("IsBoard admits", b)
@@ -151,54 +49,5 @@ func TestNumbersOfAnySizeAreNoCells(t *testing.T) {
 		wants(t, named("HasCell", n), results(impl.HasCell(b, n)), false, true)
 		wants(t, named("IsPath", n), results(impl.IsPath(b, knight, []int{n})), false, true)
 		wants(t, named("IsPath 0", n), results(impl.IsPath(b, knight, []int{0, n})), false, true)
-	}
-}
-
-// wildInput is put together of valid and invalid arguments, without regard to what goes with what.
-func wildInput(random *numbers) input {
-	small := func() int { return random.below(12) - 2 }
-	list := func(most int) []int {
-		var numbers []int
-		for range random.below(most) {
-			n := random.below(70) - 3
-			if random.below(8) == 0 {
-				n = extremes[random.below(len(extremes))]
-			}
-			numbers = append(numbers, n)
-		}
-		return numbers
-	}
-	text := func(most int) string {
-		letters := make([]byte, random.below(most))
-		for i := range letters {
-			letters[i] = "abchi0123489-- \x00\xff"[random.below(17)]
-		}
-		return string(letters)
-	}
-	in := input{
-		board: plain(small(), small()), leaper: impl.Leaper{A: small(), B: small()},
-		from: random.below(70) - 3, to: random.below(70) - 3, wide: small(), high: small(),
-		path: list(80), name: text(4), text: text(20),
-	}
-	if random.below(2) == 0 {
-		in.board.Holes = list(6)
-		if random.below(2) == 0 {
-			slices.Sort(in.board.Holes)
-		}
-	}
-	return in
-}
-
-// A call that fails has zeros beside its false, and no call panics.
-func TestWildArguments(t *testing.T) {
-	random := numbers(7)
-	for range 20000 {
-		in := wildInput(&random)
-		for _, c := range boardCalls {
-			got := c.run(in)
-			if got[len(got)-1] == false {
-				wants(t, c.name, got, zeros(got)...)
-			}
-		}
 	}
 }

@@ -42,16 +42,18 @@ func slicesIn(v reflect.Value) [][]int {
 	return found
 }
 
-// memoryInputs are valid for every function of chapter 1.
+// memoryInputs are valid for every function.
 func memoryInputs() []input {
 	full := goodInput()
 	full.board, full.path, full.to = plain(4, 3), []int{0, 9, 2}, 6
 	single := goodInput()
 	single.board, single.leaper = onlyCell(8, 8, 63), impl.Leaper{A: 0, B: 5}
 	single.from, single.to, single.path, single.name, single.text = 63, 63, []int{63}, "h8", "h8"
+	parts := goodInput()
+	parts.board, parts.path, parts.to = plain(3, 3), []int{0, 5, 6}, 8
 	empty := goodInput()
 	empty.path, empty.text = []int{}, ""
-	return []input{goodInput(), full, single, empty}
+	return []input{goodInput(), full, single, parts, empty}
 }
 
 // leavesAlone fails the test if a call changes its arguments or what lies behind them.
@@ -59,7 +61,7 @@ func leavesAlone(t *testing.T, in input) {
 	t.Helper()
 	in.board.Holes, in.path = roomy(in.board.Holes), roomy(in.path)
 	holes, path := slices.Clone(whole(in.board.Holes)), slices.Clone(whole(in.path))
-	for _, c := range boardCalls {
+	for _, c := range allCalls() {
 		c.run(in)
 		if !slices.Equal(whole(in.board.Holes), holes) || !slices.Equal(whole(in.path), path) {
 			t.Fatal(c.name, "changed its arguments to", whole(in.board.Holes), whole(in.path))
@@ -83,7 +85,7 @@ func TestResultsHaveMemoryOfTheirOwn(t *testing.T) {
 	for _, in := range memoryInputs() {
 		in.board.Holes, in.path = roomy(in.board.Holes), roomy(in.path)
 		holes, path := slices.Clone(whole(in.board.Holes)), slices.Clone(whole(in.path))
-		for _, c := range boardCalls {
+		for _, c := range allCalls() {
 			first := c.run(in)
 			found := slicesIn(reflect.ValueOf(first))
 			for i, list := range found {
@@ -119,7 +121,7 @@ func TestNilAndEmptyAreTheSame(t *testing.T) {
 	null, empty := goodInput(), goodInput()
 	null.board.Holes, null.path = nil, nil
 	empty.board.Holes, empty.path = []int{}, []int{}
-	for _, c := range boardCalls {
+	for _, c := range allCalls() {
 		wants(t, c.name+" of empty slices", c.run(empty), c.run(null)...)
 	}
 }
