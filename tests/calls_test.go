@@ -11,16 +11,18 @@ import (
 
 // An input has arguments for every function.
 type input struct {
-	board  impl.Board
-	leaper impl.Leaper
-	from   int
-	to     int
-	wide   int
-	high   int
-	leaps  int
-	path   []int
-	name   string
-	text   string
+	board   impl.Board
+	leaper  impl.Leaper
+	from    int
+	to      int
+	wide    int
+	high    int
+	leaps   int
+	index   int
+	path    []int
+	numbers []int
+	name    string
+	text    string
 }
 
 // A call runs one function; needs has the letters of the arguments that have to be valid.
@@ -32,14 +34,14 @@ type call struct {
 
 // allCalls has every function of the chapters that are there.
 func allCalls() []call {
-	return slices.Concat(boardCalls, farCalls)
+	return slices.Concat(boardCalls, farCalls, tourCalls)
 }
 
-// goodInput is valid for every function, and has what any of them asks for: its board is whole and has a round.
+// goodInput is valid for every function, and has what any of them asks for: its board is one round, which is the path.
 func goodInput() input {
 	return input{
-		board: holed(4, 3, 3, 5, 11), leaper: knight, from: 0, to: 9, wide: 4, high: 3, leaps: 3,
-		path: []int{0, 9, 2}, name: "b3", text: "a1-b3-c1",
+		board: holed(4, 3, 3, 5, 7, 11), leaper: knight, from: 0, to: 9, wide: 4, high: 3, leaps: 3, index: 7,
+		path: []int{0, 6, 8, 1, 10, 4, 2, 9}, numbers: []int{3, 0, 1, 0, 0, 0, 0, 0, 0, 2, 0, 0}, name: "b3", text: "a1-b3-c1",
 	}
 }
 
@@ -83,7 +85,7 @@ func badInputs() map[string][]input {
 		add("l", func(in *input) { in.leaper = l })
 		add("l", func(in *input) { in.leaper, in.path = l, nil })
 	}
-	for _, n := range append([]int{3, 5, 11, 12, 13}, extremes...) {
+	for _, n := range append([]int{3, 5, 7, 11, 12, 13}, extremes...) {
 		add("f", func(in *input) { in.from = n })
 		add("t", func(in *input) { in.to = n })
 		add("p", func(in *input) { in.path = []int{n} })
@@ -102,6 +104,7 @@ func badInputs() map[string][]input {
 		add("s", func(in *input) { in.text = "a1-" + name })
 	}
 	add("s", func(in *input) { in.text = strings.Repeat("a1-", 64) + "a1" })
+	addBadTours(add)
 	return bad
 }
 
@@ -145,7 +148,7 @@ func wildInput(random *numbers) input {
 	in := input{
 		board: plain(small(), small()), leaper: impl.Leaper{A: small(), B: small()},
 		from: random.below(70) - 3, to: random.below(70) - 3, wide: small(), high: small(),
-		leaps: random.below(20) - 3, path: list(80), name: text(4), text: text(20),
+		leaps: random.below(20) - 3, index: random.below(20) - 3, path: list(80), numbers: list(70), name: text(4), text: text(20),
 	}
 	if random.below(2) == 0 {
 		in.board.Holes = list(6)

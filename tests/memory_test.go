@@ -42,29 +42,43 @@ func slicesIn(v reflect.Value) [][]int {
 	return found
 }
 
+// give gives the slices of an input spare capacity, and returns a function that tells whether they and it are as they were.
+func give(in *input) func() bool {
+	in.board.Holes, in.path, in.numbers = roomy(in.board.Holes), roomy(in.path), roomy(in.numbers)
+	given := [][]int{whole(in.board.Holes), whole(in.path), whole(in.numbers)}
+	var before [][]int
+	for _, list := range given {
+		before = append(before, slices.Clone(list))
+	}
+	return func() bool { return slices.EqualFunc(given, before, slices.Equal) }
+}
+
 // memoryInputs are valid for every function.
 func memoryInputs() []input {
 	full := goodInput()
 	full.board, full.path, full.to = plain(4, 3), []int{0, 9, 2}, 6
+	tour := goodInput()
+	tour.board, tour.path, tour.to, tour.numbers = plain(2, 2), []int{2, 3, 1, 0}, 3, []int{2, 1, 0, 0}
+	tour.leaper, tour.index, tour.name, tour.text = impl.Leaper{A: 0, B: 1}, 0, "a2", "a1-b1"
 	single := goodInput()
 	single.board, single.leaper = onlyCell(8, 8, 63), impl.Leaper{A: 0, B: 5}
 	single.from, single.to, single.path, single.name, single.text = 63, 63, []int{63}, "h8", "h8"
+	single.numbers = append(make([]int, 63), 1)
 	parts := goodInput()
 	parts.board, parts.path, parts.to = plain(3, 3), []int{0, 5, 6}, 8
 	empty := goodInput()
-	empty.path, empty.text = []int{}, ""
-	return []input{goodInput(), full, single, parts, empty}
+	empty.path, empty.numbers, empty.text = []int{}, []int{}, ""
+	return []input{goodInput(), full, tour, single, parts, empty}
 }
 
 // leavesAlone fails the test if a call changes its arguments or what lies behind them.
 func leavesAlone(t *testing.T, in input) {
 	t.Helper()
-	in.board.Holes, in.path = roomy(in.board.Holes), roomy(in.path)
-	holes, path := slices.Clone(whole(in.board.Holes)), slices.Clone(whole(in.path))
+	unchanged := give(&in)
 	for _, c := range allCalls() {
 		c.run(in)
-		if !slices.Equal(whole(in.board.Holes), holes) || !slices.Equal(whole(in.path), path) {
-			t.Fatal(c.name, "changed its arguments to", whole(in.board.Holes), whole(in.path))
+		if !unchanged() {
+			t.Fatal(c.name, "changed its arguments to", whole(in.board.Holes), whole(in.path), whole(in.numbers))
 		}
 	}
 }
@@ -83,8 +97,7 @@ func TestArgumentsAreLeftAlone(t *testing.T) {
 // What is written to results shows neither in arguments, nor in other slices of the results, nor in those of a later call.
 func TestResultsHaveMemoryOfTheirOwn(t *testing.T) {
 	for _, in := range memoryInputs() {
-		in.board.Holes, in.path = roomy(in.board.Holes), roomy(in.path)
-		holes, path := slices.Clone(whole(in.board.Holes)), slices.Clone(whole(in.path))
+		unchanged := give(&in)
 		for _, c := range allCalls() {
 			first := c.run(in)
 			found := slicesIn(reflect.ValueOf(first))
@@ -100,11 +113,11 @@ func TestResultsHaveMemoryOfTheirOwn(t *testing.T) {
 					}
 				}
 			}
-			if !slices.Equal(whole(in.board.Holes), holes) || !slices.Equal(whole(in.path), path) {
+			if !unchanged() {
 				t.Fatal(c.name, "returned memory of its arguments")
 			}
 			clean := in
-			clean.board.Holes, clean.path = slices.Clone(in.board.Holes), slices.Clone(in.path)
+			clean.board.Holes, clean.path, clean.numbers = slices.Clone(in.board.Holes), slices.Clone(in.path), slices.Clone(in.numbers)
 			wants(t, c.name+" again, with no spare capacity,", c.run(in), c.run(clean)...)
 			for _, list := range found {
 				for _, n := range whole(list) {
@@ -119,8 +132,8 @@ func TestResultsHaveMemoryOfTheirOwn(t *testing.T) {
 
 func TestNilAndEmptyAreTheSame(t *testing.T) {
 	null, empty := goodInput(), goodInput()
-	null.board.Holes, null.path = nil, nil
-	empty.board.Holes, empty.path = []int{}, []int{}
+	null.board.Holes, null.path, null.numbers = nil, nil, nil
+	empty.board.Holes, empty.path, empty.numbers = []int{}, []int{}, []int{}
 	for _, c := range allCalls() {
 		wants(t, c.name+" of empty slices", c.run(empty), c.run(null)...)
 	}
