@@ -23,6 +23,13 @@ type input struct {
 	numbers []int
 	name    string
 	text    string
+	colours []int
+	few     int // how many colours
+	p       int
+	q       int
+	m       int
+	x       int
+	y       int
 }
 
 // A call runs one function; needs has the letters of the arguments that have to be valid.
@@ -34,14 +41,16 @@ type call struct {
 
 // allCalls has every function of the chapters that are there.
 func allCalls() []call {
-	return slices.Concat(boardCalls, farCalls, tourCalls)
+	return slices.Concat(boardCalls, farCalls, tourCalls, paintCalls)
 }
 
 // goodInput is valid for every function, and has what any of them asks for: its board is one round, which is the path.
 func goodInput() input {
+	b := holed(4, 3, 3, 5, 7, 11)
 	return input{
-		board: holed(4, 3, 3, 5, 7, 11), leaper: knight, from: 0, to: 9, wide: 4, high: 3, leaps: 3, index: 7,
+		board: b, leaper: knight, from: 0, to: 9, wide: 4, high: 3, leaps: 3, index: 7,
 		path: []int{0, 6, 8, 1, 10, 4, 2, 9}, numbers: []int{3, 0, 1, 0, 0, 0, 0, 0, 0, 2, 0, 0}, name: "b3", text: "a1-b3-c1",
+		colours: bySums(b), few: 3, p: 1, q: 2, m: 5, x: 1, y: 0,
 	}
 }
 
@@ -105,6 +114,7 @@ func badInputs() map[string][]input {
 	}
 	add("s", func(in *input) { in.text = strings.Repeat("a1-", 64) + "a1" })
 	addBadTours(add)
+	addBadPaintings(add)
 	return bad
 }
 
@@ -149,11 +159,21 @@ func wildInput(random *numbers) input {
 		board: plain(small(), small()), leaper: impl.Leaper{A: small(), B: small()},
 		from: random.below(70) - 3, to: random.below(70) - 3, wide: small(), high: small(),
 		leaps: random.below(20) - 3, index: random.below(20) - 3, path: list(80), numbers: list(70), name: text(4), text: text(20),
+		colours: list(70), few: small(), p: small(), q: small(), m: small(), x: random.below(20) - 10, y: random.below(210) - 105,
 	}
 	if random.below(2) == 0 {
 		in.board.Holes = list(6)
 		if random.below(2) == 0 {
 			slices.Sort(in.board.Holes)
+		}
+	}
+	if random.below(2) == 0 {
+		in.colours = nil
+		for cell := range in.board.Wide * in.board.High {
+			in.colours = append(in.colours, random.below(11)-1)
+			if isHole(in.board, cell) && random.below(8) > 0 {
+				in.colours[cell] = -1
+			}
 		}
 	}
 	return in

@@ -42,10 +42,15 @@ func slicesIn(v reflect.Value) [][]int {
 	return found
 }
 
+// listsOf has the slices of an input with their spare capacity.
+func listsOf(in input) [][]int {
+	return [][]int{whole(in.board.Holes), whole(in.path), whole(in.numbers), whole(in.colours)}
+}
+
 // give gives the slices of an input spare capacity, and returns a function that tells whether they and it are as they were.
 func give(in *input) func() bool {
-	in.board.Holes, in.path, in.numbers = roomy(in.board.Holes), roomy(in.path), roomy(in.numbers)
-	given := [][]int{whole(in.board.Holes), whole(in.path), whole(in.numbers)}
+	in.board.Holes, in.path, in.numbers, in.colours = roomy(in.board.Holes), roomy(in.path), roomy(in.numbers), roomy(in.colours)
+	given := listsOf(*in)
 	var before [][]int
 	for _, list := range given {
 		before = append(before, slices.Clone(list))
@@ -64,11 +69,16 @@ func memoryInputs() []input {
 	single.board, single.leaper = onlyCell(8, 8, 63), impl.Leaper{A: 0, B: 5}
 	single.from, single.to, single.path, single.name, single.text = 63, 63, []int{63}, "h8", "h8"
 	single.numbers = append(make([]int, 63), 1)
+	single.x = 5
 	parts := goodInput()
 	parts.board, parts.path, parts.to = plain(3, 3), []int{0, 5, 6}, 8
 	empty := goodInput()
 	empty.path, empty.numbers, empty.text = []int{}, []int{}, ""
-	return []input{goodInput(), full, tour, single, parts, empty}
+	inputs := []input{goodInput(), full, tour, single, parts, empty}
+	for i := range inputs {
+		inputs[i].colours = bySums(inputs[i].board)
+	}
+	return inputs
 }
 
 // leavesAlone fails the test if a call changes its arguments or what lies behind them.
@@ -78,7 +88,7 @@ func leavesAlone(t *testing.T, in input) {
 	for _, c := range allCalls() {
 		c.run(in)
 		if !unchanged() {
-			t.Fatal(c.name, "changed its arguments to", whole(in.board.Holes), whole(in.path), whole(in.numbers))
+			t.Fatal(c.name, "changed its arguments to", listsOf(in))
 		}
 	}
 }
@@ -117,7 +127,8 @@ func TestResultsHaveMemoryOfTheirOwn(t *testing.T) {
 				t.Fatal(c.name, "returned memory of its arguments")
 			}
 			clean := in
-			clean.board.Holes, clean.path, clean.numbers = slices.Clone(in.board.Holes), slices.Clone(in.path), slices.Clone(in.numbers)
+			clean.board.Holes, clean.path = slices.Clone(in.board.Holes), slices.Clone(in.path)
+			clean.numbers, clean.colours = slices.Clone(in.numbers), slices.Clone(in.colours)
 			wants(t, c.name+" again, with no spare capacity,", c.run(in), c.run(clean)...)
 			for _, list := range found {
 				for _, n := range whole(list) {
@@ -132,8 +143,8 @@ func TestResultsHaveMemoryOfTheirOwn(t *testing.T) {
 
 func TestNilAndEmptyAreTheSame(t *testing.T) {
 	null, empty := goodInput(), goodInput()
-	null.board.Holes, null.path, null.numbers = nil, nil, nil
-	empty.board.Holes, empty.path, empty.numbers = []int{}, []int{}, []int{}
+	null.board.Holes, null.path, null.numbers, null.colours = nil, nil, nil, nil
+	empty.board.Holes, empty.path, empty.numbers, empty.colours = []int{}, []int{}, []int{}, []int{}
 	for _, c := range allCalls() {
 		wants(t, c.name+" of empty slices", c.run(empty), c.run(null)...)
 	}
