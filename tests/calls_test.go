@@ -30,6 +30,8 @@ type input struct {
 	m       int
 	x       int
 	y       int
+	set     []int
+	size    int // how many cells of a set
 }
 
 // A call runs one function; needs has the letters of the arguments that have to be valid.
@@ -41,7 +43,7 @@ type call struct {
 
 // allCalls has every function of the chapters that are there.
 func allCalls() []call {
-	return slices.Concat(boardCalls, farCalls, tourCalls, paintCalls)
+	return slices.Concat(boardCalls, farCalls, tourCalls, paintCalls, guardCalls)
 }
 
 // goodInput is valid for every function, and has what any of them asks for: its board is one round, which is the path.
@@ -50,7 +52,7 @@ func goodInput() input {
 	return input{
 		board: b, leaper: knight, from: 0, to: 9, wide: 4, high: 3, leaps: 3, index: 7,
 		path: []int{0, 6, 8, 1, 10, 4, 2, 9}, numbers: []int{3, 0, 1, 0, 0, 0, 0, 0, 0, 2, 0, 0}, name: "b3", text: "a1-b3-c1",
-		colours: bySums(b), few: 3, p: 1, q: 2, m: 5, x: 1, y: 0,
+		colours: bySums(b), few: 3, p: 1, q: 2, m: 5, x: 1, y: 0, set: []int{0, 2, 10}, size: 2,
 	}
 }
 
@@ -88,11 +90,11 @@ func badInputs() map[string][]input {
 	}
 	for _, b := range badBoards() {
 		add("b", func(in *input) { in.board = b })
-		add("b", func(in *input) { in.board, in.path, in.text = b, nil, "" })
+		add("b", func(in *input) { in.board, in.path, in.text, in.set = b, nil, "", nil })
 	}
 	for _, l := range badLeapers() {
 		add("l", func(in *input) { in.leaper = l })
-		add("l", func(in *input) { in.leaper, in.path = l, nil })
+		add("l", func(in *input) { in.leaper, in.path, in.set = l, nil, nil })
 	}
 	for _, n := range append([]int{3, 5, 7, 11, 12, 13}, extremes...) {
 		add("f", func(in *input) { in.from = n })
@@ -115,6 +117,7 @@ func badInputs() map[string][]input {
 	add("s", func(in *input) { in.text = strings.Repeat("a1-", 64) + "a1" })
 	addBadTours(add)
 	addBadPaintings(add)
+	addBadSets(add)
 	return bad
 }
 
@@ -160,6 +163,10 @@ func wildInput(random *numbers) input {
 		from: random.below(70) - 3, to: random.below(70) - 3, wide: small(), high: small(),
 		leaps: random.below(20) - 3, index: random.below(20) - 3, path: list(80), numbers: list(70), name: text(4), text: text(20),
 		colours: list(70), few: small(), p: small(), q: small(), m: small(), x: random.below(20) - 10, y: random.below(210) - 105,
+		set: list(6), size: random.below(70) - 3,
+	}
+	if random.below(2) == 0 {
+		slices.Sort(in.set)
 	}
 	if random.below(2) == 0 {
 		in.board.Holes = list(6)

@@ -57,7 +57,7 @@ func noColours() [][]int {
 	return slices.DeleteFunc(lists, func(list []int) bool { return slices.Equal(list, good) }) // -1 is an extreme, and right for holes
 }
 
-// addBadPaintings adds what chapter 4 forbids: boards with too many cells for paintings (g), numbers of colours (j), numbers of steps (d), lists that are no colours (o), cells of the plane that are too far away (y), and for leaps to them too far or out of reach (z).
+// addBadPaintings adds what chapter 4 forbids: boards with too many cells for paintings, and for sets in chapter 5 (g), numbers of colours (j), numbers of steps (d), lists that are no colours (o), cells of the plane that are too far away (y), and for leaps to them too far or out of reach (z).
 func addBadPaintings(add func(letter string, change func(in *input))) {
 	for _, b := range []impl.Board{plain(8, 3), plain(6, 3), plain(3, 6), keeping(8, 8, 17), keeping(5, 4, 17), plain(8, 8), holed(5, 4, 0, 1, 2)} {
 		for _, l := range []impl.Leaper{knight, {A: 0, B: 1}, {A: 5, B: 5}} {

@@ -62,20 +62,22 @@ func hasNoLeap(t *testing.T, b impl.Board, l impl.Leaper, zero []int) {
 	}
 }
 
+// leapless are boards of several cells with leapers that cannot leap there.
+var leapless = []struct {
+	board impl.Board
+	l     impl.Leaper
+}{
+	{plain(2, 2), knight},
+	{plain(8, 1), knight},
+	{plain(8, 2), impl.Leaper{A: 2, B: 2}},
+	{plain(4, 4), impl.Leaper{A: 4, B: 4}},
+	{plain(5, 3), impl.Leaper{A: 0, B: 5}},
+	{holed(3, 3, 1, 3, 5, 7), single},
+	{holed(8, 4, 1, 3, 5, 7, 8, 10, 12, 14, 17, 19, 21, 23, 24, 26, 28, 30), single}, // 16 cells: 4 colours in 4 to the 16th ways
+}
+
 func TestPaintingsOfBoardsWithoutALeap(t *testing.T) {
-	cases := []struct {
-		board impl.Board
-		l     impl.Leaper
-	}{
-		{plain(2, 2), knight},
-		{plain(8, 1), knight},
-		{plain(8, 2), impl.Leaper{A: 2, B: 2}},
-		{plain(4, 4), impl.Leaper{A: 4, B: 4}},
-		{plain(5, 3), impl.Leaper{A: 0, B: 5}},
-		{holed(3, 3, 1, 3, 5, 7), single},
-		{holed(8, 4, 1, 3, 5, 7, 8, 10, 12, 14, 17, 19, 21, 23, 24, 26, 28, 30), single}, // 4 colours in 4 to the 16th ways
-	}
-	for _, c := range cases {
+	for _, c := range leapless {
 		hasNoLeap(t, c.board, c.l, painted(c.board, func(int, int) int { return 0 }))
 	}
 }

@@ -44,12 +44,13 @@ func slicesIn(v reflect.Value) [][]int {
 
 // listsOf has the slices of an input with their spare capacity.
 func listsOf(in input) [][]int {
-	return [][]int{whole(in.board.Holes), whole(in.path), whole(in.numbers), whole(in.colours)}
+	return [][]int{whole(in.board.Holes), whole(in.path), whole(in.numbers), whole(in.colours), whole(in.set)}
 }
 
 // give gives the slices of an input spare capacity, and returns a function that tells whether they and it are as they were.
 func give(in *input) func() bool {
-	in.board.Holes, in.path, in.numbers, in.colours = roomy(in.board.Holes), roomy(in.path), roomy(in.numbers), roomy(in.colours)
+	in.board.Holes, in.path, in.set = roomy(in.board.Holes), roomy(in.path), roomy(in.set)
+	in.numbers, in.colours = roomy(in.numbers), roomy(in.colours)
 	given := listsOf(*in)
 	var before [][]int
 	for _, list := range given {
@@ -61,19 +62,19 @@ func give(in *input) func() bool {
 // memoryInputs are valid for every function.
 func memoryInputs() []input {
 	full := goodInput()
-	full.board, full.path, full.to = plain(4, 3), []int{0, 9, 2}, 6
+	full.board, full.path, full.to, full.set = plain(4, 3), []int{0, 9, 2}, 6, []int{3, 4, 8}
 	tour := goodInput()
 	tour.board, tour.path, tour.to, tour.numbers = plain(2, 2), []int{2, 3, 1, 0}, 3, []int{2, 1, 0, 0}
-	tour.leaper, tour.index, tour.name, tour.text = impl.Leaper{A: 0, B: 1}, 0, "a2", "a1-b1"
+	tour.set, tour.leaper, tour.index, tour.name, tour.text = []int{1}, impl.Leaper{A: 0, B: 1}, 0, "a2", "a1-b1"
 	single := goodInput()
 	single.board, single.leaper = onlyCell(8, 8, 63), impl.Leaper{A: 0, B: 5}
 	single.from, single.to, single.path, single.name, single.text = 63, 63, []int{63}, "h8", "h8"
 	single.numbers = append(make([]int, 63), 1)
-	single.x = 5
+	single.x, single.set = 5, []int{63}
 	parts := goodInput()
-	parts.board, parts.path, parts.to = plain(3, 3), []int{0, 5, 6}, 8
+	parts.board, parts.path, parts.to, parts.set = plain(3, 3), []int{0, 5, 6}, 8, []int{4, 5}
 	empty := goodInput()
-	empty.path, empty.numbers, empty.text = []int{}, []int{}, ""
+	empty.path, empty.numbers, empty.text, empty.set = []int{}, []int{}, "", []int{}
 	inputs := []input{goodInput(), full, tour, single, parts, empty}
 	for i := range inputs {
 		inputs[i].colours = bySums(inputs[i].board)
@@ -127,7 +128,7 @@ func TestResultsHaveMemoryOfTheirOwn(t *testing.T) {
 				t.Fatal(c.name, "returned memory of its arguments")
 			}
 			clean := in
-			clean.board.Holes, clean.path = slices.Clone(in.board.Holes), slices.Clone(in.path)
+			clean.board.Holes, clean.path, clean.set = slices.Clone(in.board.Holes), slices.Clone(in.path), slices.Clone(in.set)
 			clean.numbers, clean.colours = slices.Clone(in.numbers), slices.Clone(in.colours)
 			wants(t, c.name+" again, with no spare capacity,", c.run(in), c.run(clean)...)
 			for _, list := range found {
@@ -143,8 +144,8 @@ func TestResultsHaveMemoryOfTheirOwn(t *testing.T) {
 
 func TestNilAndEmptyAreTheSame(t *testing.T) {
 	null, empty := goodInput(), goodInput()
-	null.board.Holes, null.path, null.numbers, null.colours = nil, nil, nil, nil
-	empty.board.Holes, empty.path, empty.numbers, empty.colours = []int{}, []int{}, []int{}, []int{}
+	null.board.Holes, null.path, null.numbers, null.colours, null.set = nil, nil, nil, nil, nil
+	empty.board.Holes, empty.path, empty.numbers, empty.colours, empty.set = []int{}, []int{}, []int{}, []int{}, []int{}
 	for _, c := range allCalls() {
 		wants(t, c.name+" of empty slices", c.run(empty), c.run(null)...)
 	}
