@@ -42,6 +42,15 @@ func (s spot) number(wide int) int {
 	return s.y*wide + s.x
 }
 
+// plus is where a step from s ends, and minus is the step to s from a spot.
+func (s spot) plus(step spot) spot {
+	return spot{s.x + step.x, s.y + step.y}
+}
+
+func (s spot) minus(from spot) spot {
+	return spot{s.x - from.x, s.y - from.y}
+}
+
 // turned is where s comes to on the turned board.
 func (s spot) turned(b Board) spot {
 	return spot{b.High - 1 - s.y, s.x}
@@ -59,7 +68,7 @@ type leap struct {
 }
 
 func (p leap) end() spot {
-	return spot{p.x + p.step.x, p.y + p.step.y}
+	return p.plus(p.step)
 }
 
 // leadsOn reports whether p leads to a greater cell. Of a leap and the one back just one does, so it counts pairs once.
@@ -142,6 +151,10 @@ func isThere(b Board, cell int) bool {
 	return !hole
 }
 
+func areThere(b Board, cells []int) bool {
+	return !slices.ContainsFunc(cells, func(cell int) bool { return !isThere(b, cell) })
+}
+
 // isOnBoard reports whether b is a board with this cell.
 func isOnBoard(b Board, cell int) bool {
 	return IsBoard(b) && isThere(b, cell)
@@ -172,9 +185,9 @@ func CellOfName(b Board, name string) (int, bool) {
 	return s.number(b.Wide), true
 }
 
-// isSpotThere asks for the column besides the number: beyond the end of a row this is that of a cell of another one.
+// isSpotThere asks for the column and the row besides the number: beyond the end of a row this is that of a cell of another one, and far away it may be that of any cell, as it has just 64 bits.
 func isSpotThere(b Board, s spot) bool {
-	return s.x >= 0 && s.x < b.Wide && isThere(b, s.number(b.Wide))
+	return s.x >= 0 && s.x < b.Wide && s.y >= 0 && s.y < b.High && isThere(b, s.number(b.Wide))
 }
 
 // StepsOf returns all steps of a leaper, as lists of the change of x and of y, in lexicographic order.

@@ -32,6 +32,11 @@ type input struct {
 	y       int
 	set     []int
 	size    int // how many cells of a set
+	field   impl.Board
+	first   []int // two walks on the field
+	second  []int
+	most    int // how many turns
+	steps   []int
 }
 
 // A call runs one function; needs has the letters of the arguments that have to be valid.
@@ -43,7 +48,7 @@ type call struct {
 
 // allCalls has every function of the chapters that are there.
 func allCalls() []call {
-	return slices.Concat(boardCalls, farCalls, tourCalls, paintCalls, guardCalls)
+	return slices.Concat(boardCalls, farCalls, tourCalls, paintCalls, guardCalls, blockCalls)
 }
 
 // goodInput is valid for every function, and has what any of them asks for: its board is one round, which is the path.
@@ -53,6 +58,7 @@ func goodInput() input {
 		board: b, leaper: knight, from: 0, to: 9, wide: 4, high: 3, leaps: 3, index: 7,
 		path: []int{0, 6, 8, 1, 10, 4, 2, 9}, numbers: []int{3, 0, 1, 0, 0, 0, 0, 0, 0, 2, 0, 0}, name: "b3", text: "a1-b3-c1",
 		colours: bySums(b), few: 3, p: 1, q: 2, m: 5, x: 1, y: 0, set: []int{0, 2, 10}, size: 2,
+		field: holed(5, 4, 4, 14, 15, 19), first: []int{0, 7, 18, 11}, second: []int{2, 5, 12, 9}, most: 3, steps: []int{7, 1},
 	}
 }
 
@@ -90,11 +96,11 @@ func badInputs() map[string][]input {
 	}
 	for _, b := range badBoards() {
 		add("b", func(in *input) { in.board = b })
-		add("b", func(in *input) { in.board, in.path, in.text, in.set = b, nil, "", nil })
+		add("b", func(in *input) { in.board, in.path, in.text, in.set, in.steps = b, nil, "", nil, nil })
 	}
 	for _, l := range badLeapers() {
 		add("l", func(in *input) { in.leaper = l })
-		add("l", func(in *input) { in.leaper, in.path, in.set = l, nil, nil })
+		add("l", func(in *input) { in.leaper, in.path, in.set, in.steps = l, nil, nil, nil })
 	}
 	for _, n := range append([]int{3, 5, 7, 11, 12, 13}, extremes...) {
 		add("f", func(in *input) { in.from = n })
@@ -118,6 +124,7 @@ func badInputs() map[string][]input {
 	addBadTours(add)
 	addBadPaintings(add)
 	addBadSets(add)
+	addBadBlocks(add)
 	return bad
 }
 
@@ -164,6 +171,7 @@ func wildInput(random *numbers) input {
 		leaps: random.below(20) - 3, index: random.below(20) - 3, path: list(80), numbers: list(70), name: text(4), text: text(20),
 		colours: list(70), few: small(), p: small(), q: small(), m: small(), x: random.below(20) - 10, y: random.below(210) - 105,
 		set: list(6), size: random.below(70) - 3,
+		field: plain(small(), small()), first: list(6), second: list(6), most: random.below(6) - 1, steps: list(6),
 	}
 	if random.below(2) == 0 {
 		slices.Sort(in.set)

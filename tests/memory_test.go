@@ -42,19 +42,18 @@ func slicesIn(v reflect.Value) [][]int {
 	return found
 }
 
-// listsOf has the slices of an input with their spare capacity.
-func listsOf(in input) [][]int {
-	return [][]int{whole(in.board.Holes), whole(in.path), whole(in.numbers), whole(in.colours), whole(in.set)}
+// listsOf points to the slices of an input.
+func listsOf(in *input) []*[]int {
+	return []*[]int{&in.board.Holes, &in.path, &in.numbers, &in.colours, &in.set, &in.field.Holes, &in.first, &in.second, &in.steps}
 }
 
 // give gives the slices of an input spare capacity, and returns a function that tells whether they and it are as they were.
 func give(in *input) func() bool {
-	in.board.Holes, in.path, in.set = roomy(in.board.Holes), roomy(in.path), roomy(in.set)
-	in.numbers, in.colours = roomy(in.numbers), roomy(in.colours)
-	given := listsOf(*in)
-	var before [][]int
-	for _, list := range given {
-		before = append(before, slices.Clone(list))
+	var given, before [][]int
+	for _, list := range listsOf(in) {
+		*list = roomy(*list)
+		given = append(given, whole(*list))
+		before = append(before, slices.Clone(whole(*list)))
 	}
 	return func() bool { return slices.EqualFunc(given, before, slices.Equal) }
 }
@@ -73,9 +72,13 @@ func memoryInputs() []input {
 	single.x, single.set = 5, []int{63}
 	parts := goodInput()
 	parts.board, parts.path, parts.to, parts.set = plain(3, 3), []int{0, 5, 6}, 8, []int{4, 5}
+	blocks := tour
+	blocks.index, blocks.wide, blocks.high, blocks.x, blocks.most = 1, 2, 2, 2, 0
+	blocks.field, blocks.first, blocks.second = plain(4, 2), []int{0, 1, 5, 4}, []int{2, 3, 7, 6}
+	blocks.from, blocks.steps = 0, []int{3, 2, 0}
 	empty := goodInput()
-	empty.path, empty.numbers, empty.text, empty.set = []int{}, []int{}, "", []int{}
-	inputs := []input{goodInput(), full, tour, single, parts, empty}
+	empty.path, empty.numbers, empty.text, empty.set, empty.steps = []int{}, []int{}, "", []int{}, []int{}
+	inputs := []input{goodInput(), full, tour, single, parts, blocks, empty}
 	for i := range inputs {
 		inputs[i].colours = bySums(inputs[i].board)
 	}
@@ -89,7 +92,7 @@ func leavesAlone(t *testing.T, in input) {
 	for _, c := range allCalls() {
 		c.run(in)
 		if !unchanged() {
-			t.Fatal(c.name, "changed its arguments to", listsOf(in))
+			t.Fatal(c.name, "changed its arguments to", in)
 		}
 	}
 }
@@ -128,8 +131,9 @@ func TestResultsHaveMemoryOfTheirOwn(t *testing.T) {
 				t.Fatal(c.name, "returned memory of its arguments")
 			}
 			clean := in
-			clean.board.Holes, clean.path, clean.set = slices.Clone(in.board.Holes), slices.Clone(in.path), slices.Clone(in.set)
-			clean.numbers, clean.colours = slices.Clone(in.numbers), slices.Clone(in.colours)
+			for _, list := range listsOf(&clean) {
+				*list = slices.Clip(slices.Clone(*list))
+			}
 			wants(t, c.name+" again, with no spare capacity,", c.run(in), c.run(clean)...)
 			for _, list := range found {
 				for _, n := range whole(list) {
@@ -144,8 +148,12 @@ func TestResultsHaveMemoryOfTheirOwn(t *testing.T) {
 
 func TestNilAndEmptyAreTheSame(t *testing.T) {
 	null, empty := goodInput(), goodInput()
-	null.board.Holes, null.path, null.numbers, null.colours, null.set = nil, nil, nil, nil, nil
-	empty.board.Holes, empty.path, empty.numbers, empty.colours, empty.set = []int{}, []int{}, []int{}, []int{}, []int{}
+	for _, list := range listsOf(&null) {
+		*list = nil
+	}
+	for _, list := range listsOf(&empty) {
+		*list = []int{}
+	}
 	for _, c := range allCalls() {
 		wants(t, c.name+" of empty slices", c.run(empty), c.run(null)...)
 	}
