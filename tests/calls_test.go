@@ -37,6 +37,10 @@ type input struct {
 	second  []int
 	most    int // how many turns
 	steps   []int
+	leap    []int
+	other   []int // another leap
+	round   []int // a ring on the field
+	around  int   // how many cells of a ring
 }
 
 // A call runs one function; needs has the letters of the arguments that have to be valid.
@@ -48,7 +52,7 @@ type call struct {
 
 // allCalls has every function of the chapters that are there.
 func allCalls() []call {
-	return slices.Concat(boardCalls, farCalls, tourCalls, paintCalls, guardCalls, blockCalls)
+	return slices.Concat(boardCalls, farCalls, tourCalls, paintCalls, guardCalls, blockCalls, crossCalls)
 }
 
 // goodInput is valid for every function, and has what any of them asks for: its board is one round, which is the path.
@@ -59,6 +63,7 @@ func goodInput() input {
 		path: []int{0, 6, 8, 1, 10, 4, 2, 9}, numbers: []int{3, 0, 1, 0, 0, 0, 0, 0, 0, 2, 0, 0}, name: "b3", text: "a1-b3-c1",
 		colours: bySums(b), few: 3, p: 1, q: 2, m: 5, x: 1, y: 0, set: []int{0, 2, 10}, size: 2,
 		field: holed(5, 4, 4, 14, 15, 19), first: []int{0, 7, 18, 11}, second: []int{2, 5, 12, 9}, most: 3, steps: []int{7, 1},
+		leap: []int{0, 6}, other: []int{8, 1}, round: []int{9, 18, 7, 16, 5, 2}, around: 6,
 	}
 }
 
@@ -125,6 +130,7 @@ func badInputs() map[string][]input {
 	addBadPaintings(add)
 	addBadSets(add)
 	addBadBlocks(add)
+	addBadCrossings(add)
 	return bad
 }
 
@@ -172,6 +178,7 @@ func wildInput(random *numbers) input {
 		colours: list(70), few: small(), p: small(), q: small(), m: small(), x: random.below(20) - 10, y: random.below(210) - 105,
 		set: list(6), size: random.below(70) - 3,
 		field: plain(small(), small()), first: list(6), second: list(6), most: random.below(6) - 1, steps: list(6),
+		leap: list(4), other: list(4), round: list(8), around: small(),
 	}
 	if random.below(2) == 0 {
 		slices.Sort(in.set)

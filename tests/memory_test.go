@@ -44,7 +44,7 @@ func slicesIn(v reflect.Value) [][]int {
 
 // listsOf points to the slices of an input.
 func listsOf(in *input) []*[]int {
-	return []*[]int{&in.board.Holes, &in.path, &in.numbers, &in.colours, &in.set, &in.field.Holes, &in.first, &in.second, &in.steps}
+	return []*[]int{&in.board.Holes, &in.path, &in.numbers, &in.colours, &in.set, &in.field.Holes, &in.first, &in.second, &in.steps, &in.leap, &in.other, &in.round}
 }
 
 // give gives the slices of an input spare capacity, and returns a function that tells whether they and it are as they were.
@@ -76,8 +76,10 @@ func memoryInputs() []input {
 	blocks.index, blocks.wide, blocks.high, blocks.x, blocks.most = 1, 2, 2, 2, 0
 	blocks.field, blocks.first, blocks.second = plain(4, 2), []int{0, 1, 5, 4}, []int{2, 3, 7, 6}
 	blocks.from, blocks.steps = 0, []int{3, 2, 0}
+	blocks.to, blocks.leap, blocks.other, blocks.round, blocks.around = 1, []int{0, 1}, []int{3, 2}, []int{4, 0, 1, 5}, 4
 	empty := goodInput()
 	empty.path, empty.numbers, empty.text, empty.set, empty.steps = []int{}, []int{}, "", []int{}, []int{}
+	empty.leap, empty.other, empty.round = []int{}, []int{}, []int{}
 	inputs := []input{goodInput(), full, tour, single, parts, blocks, empty}
 	for i := range inputs {
 		inputs[i].colours = bySums(inputs[i].board)
