@@ -30,7 +30,12 @@ type spot struct {
 }
 
 func spotOf(b Board, cell int) spot {
-	return spot{cell % b.Wide, cell / b.Wide}
+	return numbered(cell, b.Wide)
+}
+
+// numbered is the spot of a cell on a board with wide columns.
+func numbered(cell int, wide int) spot {
+	return spot{cell % wide, cell / wide}
 }
 
 func (s spot) compare(t spot) int {
@@ -187,7 +192,12 @@ func CellOfName(b Board, name string) (int, bool) {
 
 // isSpotThere asks for the column and the row besides the number: beyond the end of a row this is that of a cell of another one, and far away it may be that of any cell, as it has just 64 bits.
 func isSpotThere(b Board, s spot) bool {
-	return s.x >= 0 && s.x < b.Wide && s.y >= 0 && s.y < b.High && isThere(b, s.number(b.Wide))
+	return s.isIn(b.Wide, b.High) && isThere(b, s.number(b.Wide))
+}
+
+// isIn reports whether s has one of so many columns and rows.
+func (s spot) isIn(wide int, high int) bool {
+	return s.x >= 0 && s.x < wide && s.y >= 0 && s.y < high
 }
 
 // StepsOf returns all steps of a leaper, as lists of the change of x and of y, in lexicographic order.

@@ -41,6 +41,14 @@ type input struct {
 	other   []int // another leap
 	round   []int // a ring on the field
 	around  int   // how many cells of a ring
+	joined  impl.Around
+	start   int // two cells of it
+	goal    int
+	across  int // a step on it
+	above   int
+	often   int // indices of two steps
+	seldom  int
+	every   int // which one of so many steps is the other one
 }
 
 // A call runs one function; needs has the letters of the arguments that have to be valid.
@@ -52,7 +60,7 @@ type call struct {
 
 // allCalls has every function of the chapters that are there.
 func allCalls() []call {
-	return slices.Concat(boardCalls, farCalls, tourCalls, paintCalls, guardCalls, blockCalls, crossCalls)
+	return slices.Concat(boardCalls, farCalls, tourCalls, paintCalls, guardCalls, blockCalls, crossCalls, aroundCalls)
 }
 
 // goodInput is valid for every function, and has what any of them asks for: its board is one round, which is the path.
@@ -64,6 +72,7 @@ func goodInput() input {
 		colours: bySums(b), few: 3, p: 1, q: 2, m: 5, x: 1, y: 0, set: []int{0, 2, 10}, size: 2,
 		field: holed(5, 4, 4, 14, 15, 19), first: []int{0, 7, 18, 11}, second: []int{2, 5, 12, 9}, most: 3, steps: []int{7, 1},
 		leap: []int{0, 6}, other: []int{8, 1}, round: []int{9, 18, 7, 16, 5, 2}, around: 6,
+		joined: torus(4, 3), start: 1, goal: 11, across: 3, above: -2, often: 0, seldom: 2, every: 6,
 	}
 }
 
@@ -131,6 +140,7 @@ func badInputs() map[string][]input {
 	addBadSets(add)
 	addBadBlocks(add)
 	addBadCrossings(add)
+	addBadAround(add)
 	return bad
 }
 
@@ -179,6 +189,9 @@ func wildInput(random *numbers) input {
 		set: list(6), size: random.below(70) - 3,
 		field: plain(small(), small()), first: list(6), second: list(6), most: random.below(6) - 1, steps: list(6),
 		leap: list(4), other: list(4), round: list(8), around: small(),
+		joined: impl.Around{Wide: random.below(16) - 1, High: random.below(16) - 1, Across: random.below(2) == 0, Upright: random.below(2) == 0},
+		start:  random.below(150) - 3, goal: random.below(150) - 3, across: random.below(46) - 23, above: random.below(46) - 23,
+		often: random.below(11) - 1, seldom: random.below(11) - 1, every: random.below(160) - 3,
 	}
 	if random.below(2) == 0 {
 		slices.Sort(in.set)

@@ -18,12 +18,16 @@ type graph struct {
 }
 
 func graphOf(b impl.Board, l impl.Leaper) graph {
-	size := b.Wide * b.High
-	g := graph{cells: there(b), next: make([][]int, size), far: make([][]int, size)}
+	return graphBy(b.Wide*b.High, there(b), func(from int, to int) bool { return leaps(b, l, from, to) })
+}
+
+// graphBy has the cells of a board of so many, holes with them, between which there are leaps.
+func graphBy(size int, cells []int, leaps func(from int, to int) bool) graph {
+	g := graph{cells: cells, next: make([][]int, size), far: make([][]int, size)}
 	for _, from := range g.cells {
 		g.far[from] = slices.Repeat([]int{never}, size)
 		for _, to := range g.cells {
-			if leaps(b, l, from, to) {
+			if leaps(from, to) {
 				g.next[from] = append(g.next[from], to)
 				g.far[from][to] = 1
 			}

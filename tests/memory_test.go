@@ -70,6 +70,9 @@ func memoryInputs() []input {
 	single.from, single.to, single.path, single.name, single.text = 63, 63, []int{63}, "h8", "h8"
 	single.numbers = append(make([]int, 63), 1)
 	single.x, single.set = 5, []int{63}
+	full.joined, full.start, full.goal, full.across, full.often = torus(12, 12), 143, 0, 5, 7
+	tour.joined, tour.often = impl.Around{Wide: 4, High: 3, Across: true}, 3
+	single.joined, single.start, single.goal = torus(1, 1), 0, 0
 	parts := goodInput()
 	parts.board, parts.path, parts.to, parts.set = plain(3, 3), []int{0, 5, 6}, 8, []int{4, 5}
 	blocks := tour
