@@ -49,6 +49,12 @@ type input struct {
 	often   int // indices of two steps
 	seldom  int
 	every   int // which one of so many steps is the other one
+	puzzle  impl.Puzzle
+	gap     int // a cell of it
+	number  int // what may be shown there
+	known   int // another cell, with a number
+	rate    int // which one of so many numbers is shown
+	told    string
 }
 
 // A call runs one function; needs has the letters of the arguments that have to be valid.
@@ -60,7 +66,7 @@ type call struct {
 
 // allCalls has every function of the chapters that are there.
 func allCalls() []call {
-	return slices.Concat(boardCalls, farCalls, tourCalls, paintCalls, guardCalls, blockCalls, crossCalls, aroundCalls)
+	return slices.Concat(boardCalls, farCalls, tourCalls, paintCalls, guardCalls, blockCalls, crossCalls, aroundCalls, puzzleCalls)
 }
 
 // goodInput is valid for every function, and has what any of them asks for: its board is one round, which is the path.
@@ -73,6 +79,7 @@ func goodInput() input {
 		field: holed(5, 4, 4, 14, 15, 19), first: []int{0, 7, 18, 11}, second: []int{2, 5, 12, 9}, most: 3, steps: []int{7, 1},
 		leap: []int{0, 6}, other: []int{8, 1}, round: []int{9, 18, 7, 16, 5, 2}, around: 6,
 		joined: torus(4, 3), start: 1, goal: 11, across: 3, above: -2, often: 0, seldom: 2, every: 6,
+		puzzle: ringPuzzle(), gap: 1, number: 4, known: 5, rate: 3, told: "1,2:1,.,./.,#,2/.,.,.",
 	}
 }
 
@@ -141,6 +148,7 @@ func badInputs() map[string][]input {
 	addBadBlocks(add)
 	addBadCrossings(add)
 	addBadAround(add)
+	addBadPuzzles(add)
 	return bad
 }
 
@@ -192,6 +200,7 @@ func wildInput(random *numbers) input {
 		joined: impl.Around{Wide: random.below(16) - 1, High: random.below(16) - 1, Across: random.below(2) == 0, Upright: random.below(2) == 0},
 		start:  random.below(150) - 3, goal: random.below(150) - 3, across: random.below(46) - 23, above: random.below(46) - 23,
 		often: random.below(11) - 1, seldom: random.below(11) - 1, every: random.below(160) - 3,
+		puzzle: wildPuzzle(random), gap: random.below(20) - 2, number: random.below(20) - 2, known: random.below(20) - 2, rate: random.below(25) - 2, told: wildPuzzleText(random),
 	}
 	if random.below(2) == 0 {
 		slices.Sort(in.set)
@@ -212,6 +221,44 @@ func wildInput(random *numbers) input {
 		}
 	}
 	return in
+}
+
+// wildPuzzle is a puzzle, or has a part that spoils it.
+func wildPuzzle(random *numbers) impl.Puzzle {
+	p := blank(plain(1+random.below(5), 1+random.below(5)), allLeapers()[random.below(20)])
+	for cell := range p.Numbers {
+		switch random.below(12) {
+		case 0, 1:
+			p.Board.Holes = append(p.Board.Holes, cell)
+		case 2, 3:
+			p.Numbers[cell] = 1 + random.below(len(p.Numbers))
+		}
+	}
+	switch random.below(16) {
+	case 0:
+		p.Board.Wide += random.below(3) - 1
+	case 1:
+		p.Leaper.A = random.below(8) - 1
+	case 2:
+		p.Numbers = append(p.Numbers, 0)
+	case 3:
+		p.Numbers = p.Numbers[1:]
+	case 4:
+		p.Numbers[random.below(len(p.Numbers))] = extremes[random.below(len(extremes))]
+	}
+	return p
+}
+
+// wildPuzzleText begins like a puzzle and goes on as it may.
+func wildPuzzleText(random *numbers) string {
+	text := []byte("1,2:")
+	for range random.below(12) {
+		text = append(text, ".#1,/.,"[random.below(7)])
+	}
+	if random.below(4) == 0 {
+		text[random.below(len(text))] = "01259,:/.#-+ \x00\xff"[random.below(15)]
+	}
+	return string(text)
 }
 
 // A call that fails has zeros beside its false, and no call panics.

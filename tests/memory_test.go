@@ -44,7 +44,7 @@ func slicesIn(v reflect.Value) [][]int {
 
 // listsOf points to the slices of an input.
 func listsOf(in *input) []*[]int {
-	return []*[]int{&in.board.Holes, &in.path, &in.numbers, &in.colours, &in.set, &in.field.Holes, &in.first, &in.second, &in.steps, &in.leap, &in.other, &in.round}
+	return []*[]int{&in.board.Holes, &in.path, &in.numbers, &in.colours, &in.set, &in.field.Holes, &in.first, &in.second, &in.steps, &in.leap, &in.other, &in.round, &in.puzzle.Board.Holes, &in.puzzle.Numbers}
 }
 
 // give gives the slices of an input spare capacity, and returns a function that tells whether they and it are as they were.
@@ -73,6 +73,10 @@ func memoryInputs() []input {
 	full.joined, full.start, full.goal, full.across, full.often = torus(12, 12), 143, 0, 5, 7
 	tour.joined, tour.often = impl.Around{Wide: 4, High: 3, Across: true}, 3
 	single.joined, single.start, single.goal = torus(1, 1), 0, 0
+	full.puzzle, full.told = solutions200(), "0,5:#,1,#/#,#,#"
+	tour.puzzle, tour.gap, tour.number, tour.rate, tour.told = puzzleOf(tour.leaper, "1 .", ". ."), 3, 3, 1, "0,1:1,./2,3"
+	tour.known = 0
+	single.puzzle, single.gap, single.number, single.rate = blank(onlyCell(8, 8, 63), knight), 63, 1, 20
 	parts := goodInput()
 	parts.board, parts.path, parts.to, parts.set = plain(3, 3), []int{0, 5, 6}, 8, []int{4, 5}
 	blocks := tour
@@ -80,9 +84,11 @@ func memoryInputs() []input {
 	blocks.field, blocks.first, blocks.second = plain(4, 2), []int{0, 1, 5, 4}, []int{2, 3, 7, 6}
 	blocks.from, blocks.steps = 0, []int{3, 2, 0}
 	blocks.to, blocks.leap, blocks.other, blocks.round, blocks.around = 1, []int{0, 1}, []int{3, 2}, []int{4, 0, 1, 5}, 4
+	blocks.puzzle, blocks.known = puzzleOf(knight, "1 4 7", "6 # 2", "3 8 5"), 8
 	empty := goodInput()
 	empty.path, empty.numbers, empty.text, empty.set, empty.steps = []int{}, []int{}, "", []int{}, []int{}
 	empty.leap, empty.other, empty.round = []int{}, []int{}, []int{}
+	empty.puzzle.Numbers, empty.told = []int{}, ""
 	inputs := []input{goodInput(), full, tour, single, parts, blocks, empty}
 	for i := range inputs {
 		inputs[i].colours = bySums(inputs[i].board)
