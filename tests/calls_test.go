@@ -55,6 +55,9 @@ type input struct {
 	known   int // another cell, with a number
 	rate    int // which one of so many numbers is shown
 	told    string
+	desk    impl.Desk
+	line    string
+	script  string
 }
 
 // A call runs one function; needs has the letters of the arguments that have to be valid.
@@ -66,7 +69,7 @@ type call struct {
 
 // allCalls has every function of the chapters that are there.
 func allCalls() []call {
-	return slices.Concat(boardCalls, farCalls, tourCalls, paintCalls, guardCalls, blockCalls, crossCalls, aroundCalls, puzzleCalls)
+	return slices.Concat(boardCalls, farCalls, tourCalls, paintCalls, guardCalls, blockCalls, crossCalls, aroundCalls, puzzleCalls, consoleCalls)
 }
 
 // goodInput is valid for every function, and has what any of them asks for: its board is one round, which is the path.
@@ -80,6 +83,7 @@ func goodInput() input {
 		leap: []int{0, 6}, other: []int{8, 1}, round: []int{9, 18, 7, 16, 5, 2}, around: 6,
 		joined: torus(4, 3), start: 1, goal: 11, across: 3, above: -2, often: 0, seldom: 2, every: 6,
 		puzzle: ringPuzzle(), gap: 1, number: 4, known: 5, rate: 3, told: "1,2:1,.,./.,#,2/.,.,.",
+		desk: ringDesk(), line: "go b1", script: lines("board 3 3", "hole b2", "tour", "back", "go b2"),
 	}
 }
 
@@ -149,6 +153,7 @@ func badInputs() map[string][]input {
 	addBadCrossings(add)
 	addBadAround(add)
 	addBadPuzzles(add)
+	addBadDesks(add)
 	return bad
 }
 
@@ -201,6 +206,7 @@ func wildInput(random *numbers) input {
 		start:  random.below(150) - 3, goal: random.below(150) - 3, across: random.below(46) - 23, above: random.below(46) - 23,
 		often: random.below(11) - 1, seldom: random.below(11) - 1, every: random.below(160) - 3,
 		puzzle: wildPuzzle(random), gap: random.below(20) - 2, number: random.below(20) - 2, known: random.below(20) - 2, rate: random.below(25) - 2, told: wildPuzzleText(random),
+		desk: wildDesk(random), line: wildLine(random), script: wildScript(random),
 	}
 	if random.below(2) == 0 {
 		slices.Sort(in.set)
@@ -259,6 +265,41 @@ func wildPuzzleText(random *numbers) string {
 		text[random.below(len(text))] = "01259,:/.#-+ \x00\xff"[random.below(15)]
 	}
 	return string(text)
+}
+
+// wildDesk is a desk, or has a part that spoils it.
+func wildDesk(random *numbers) impl.Desk {
+	p := wildPuzzle(random)
+	d := impl.Desk{Board: p.Board, Leaper: p.Leaper}
+	if random.below(2) == 0 {
+		d.Walk, _ = impl.FewestOnward(d.Board, d.Leaper, random.below(26)-1)
+	}
+	if random.below(4) == 0 {
+		d.Walk = append(d.Walk, random.below(26)-1)
+	}
+	return d
+}
+
+// wildLine has up to four words, most of which are known in some place.
+func wildLine(random *numbers) string {
+	known := strings.Split("board leaper hole go back walk tour ring show cells leaps from tours done crossings guards peaceful a1 b2 c3 b1 0 1 2 3 4 05 6 999999 1000000 -1 x \x00 \xff no what", " ")
+	words := []string{known[random.below(len(known))]}
+	for range random.below(4) {
+		words = append(words, append(known, "", "\n")[random.below(len(known)+2)])
+	}
+	return strings.Join(words, " ")
+}
+
+// wildScript mostly ends with a newline.
+func wildScript(random *numbers) string {
+	text := ""
+	for range random.below(8) {
+		text += wildLine(random) + "\n"
+	}
+	if random.below(8) == 0 {
+		text += wildLine(random)
+	}
+	return text
 }
 
 // A call that fails has zeros beside its false, and no call panics.

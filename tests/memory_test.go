@@ -44,7 +44,7 @@ func slicesIn(v reflect.Value) [][]int {
 
 // listsOf points to the slices of an input.
 func listsOf(in *input) []*[]int {
-	return []*[]int{&in.board.Holes, &in.path, &in.numbers, &in.colours, &in.set, &in.field.Holes, &in.first, &in.second, &in.steps, &in.leap, &in.other, &in.round, &in.puzzle.Board.Holes, &in.puzzle.Numbers}
+	return []*[]int{&in.board.Holes, &in.path, &in.numbers, &in.colours, &in.set, &in.field.Holes, &in.first, &in.second, &in.steps, &in.leap, &in.other, &in.round, &in.puzzle.Board.Holes, &in.puzzle.Numbers, &in.desk.Board.Holes, &in.desk.Walk}
 }
 
 // give gives the slices of an input spare capacity, and returns a function that tells whether they and it are as they were.
@@ -89,6 +89,11 @@ func memoryInputs() []input {
 	empty.path, empty.numbers, empty.text, empty.set, empty.steps = []int{}, []int{}, "", []int{}, []int{}
 	empty.leap, empty.other, empty.round = []int{}, []int{}, []int{}
 	empty.puzzle.Numbers, empty.told = []int{}, ""
+	full.desk, full.line, full.script = deskOf(holed(8, 8, 9), tour.leaper, 1, 0, 8), "from a2", ""
+	tour.desk, tour.line = deskOf(plain(3, 3), knight, 0, 5, 6), "hole b2"
+	single.desk, single.line = deskOf(onlyCell(8, 8, 63), knight, 63), "back"
+	parts.desk, parts.line = deskOf(holed(3, 3, 4), knight, ring...), "done"
+	empty.desk.Walk, empty.line, empty.script = []int{}, "", ""
 	inputs := []input{goodInput(), full, tour, single, parts, blocks, empty}
 	for i := range inputs {
 		inputs[i].colours = bySums(inputs[i].board)
@@ -97,10 +102,10 @@ func memoryInputs() []input {
 }
 
 // leavesAlone fails the test if a call changes its arguments or what lies behind them.
-func leavesAlone(t *testing.T, in input) {
+func leavesAlone(t *testing.T, in input, calls []call) {
 	t.Helper()
 	unchanged := give(&in)
-	for _, c := range allCalls() {
+	for _, c := range calls {
 		c.run(in)
 		if !unchanged() {
 			t.Fatal(c.name, "changed its arguments to", in)
@@ -110,50 +115,55 @@ func leavesAlone(t *testing.T, in input) {
 
 func TestArgumentsAreLeftAlone(t *testing.T) {
 	for _, in := range memoryInputs() {
-		leavesAlone(t, in)
+		leavesAlone(t, in, allCalls())
 	}
 	for _, bad := range badInputs() {
 		for _, in := range bad {
-			leavesAlone(t, in)
+			leavesAlone(t, in, allCalls())
 		}
 	}
 }
 
-// What is written to results shows neither in arguments, nor in other slices of the results, nor in those of a later call.
-func TestResultsHaveMemoryOfTheirOwn(t *testing.T) {
-	for _, in := range memoryInputs() {
-		unchanged := give(&in)
-		for _, c := range allCalls() {
-			first := c.run(in)
-			found := slicesIn(reflect.ValueOf(first))
-			for i, list := range found {
-				for j := range whole(list) {
-					whole(list)[j] = -1000 - i
-				}
+// isOwned fails the test if what is written to results shows in arguments, in other slices of the results, or in those of a later call.
+func isOwned(t *testing.T, in input, calls []call) {
+	t.Helper()
+	unchanged := give(&in)
+	for _, c := range calls {
+		first := c.run(in)
+		found := slicesIn(reflect.ValueOf(first))
+		for i, list := range found {
+			for j := range whole(list) {
+				whole(list)[j] = -1000 - i
 			}
-			for i, list := range found {
-				for _, n := range whole(list) {
-					if n != -1000-i {
-						t.Fatal(c.name, "returned slices that share memory")
-					}
-				}
-			}
-			if !unchanged() {
-				t.Fatal(c.name, "returned memory of its arguments")
-			}
-			clean := in
-			for _, list := range listsOf(&clean) {
-				*list = slices.Clip(slices.Clone(*list))
-			}
-			wants(t, c.name+" again, with no spare capacity,", c.run(in), c.run(clean)...)
-			for _, list := range found {
-				for _, n := range whole(list) {
-					if n > -1000 {
-						t.Fatal(c.name, "wrote to an earlier result")
-					}
+		}
+		for i, list := range found {
+			for _, n := range whole(list) {
+				if n != -1000-i {
+					t.Fatal(c.name, "returned slices that share memory")
 				}
 			}
 		}
+		if !unchanged() {
+			t.Fatal(c.name, "returned memory of its arguments")
+		}
+		clean := in
+		for _, list := range listsOf(&clean) {
+			*list = slices.Clip(slices.Clone(*list))
+		}
+		wants(t, c.name+" again, with no spare capacity,", c.run(in), c.run(clean)...)
+		for _, list := range found {
+			for _, n := range whole(list) {
+				if n > -1000 {
+					t.Fatal(c.name, "wrote to an earlier result")
+				}
+			}
+		}
+	}
+}
+
+func TestResultsHaveMemoryOfTheirOwn(t *testing.T) {
+	for _, in := range memoryInputs() {
+		isOwned(t, in, allCalls())
 	}
 }
 
